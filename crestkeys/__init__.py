@@ -1,0 +1,1 @@
+"""Crestkeys: cards with keys and ranks, one tree for each set of them."""

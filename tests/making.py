@@ -1,0 +1,152 @@
+"""Cards and trees for the tests, made in ways of their own: nothing here uses the program."""
+
+import random
+
+GREATEST = 10 ** 18
+
+
+def dice(seed):
+    return random.Random(seed)
+
+
+def some_cards(rng, many, ranks=None, most_key=None):
+    """A pack in a row of chance; few ranks make many like ones."""
+    keys = rng.sample(range((most_key or many * 3) + 1), many)
+    return [(key, rng.randint(0, ranks or many), rng.randint(-9, 9)) for key in keys]
+
+
+def rising(cards):
+    return sorted(cards, key=lambda card: card[0])
+
+
+def better(one, other):
+    return (-one[1], one[0]) < (-other[1], other[0])
+
+
+def any_tree(rng, cards):
+    """A tree of the cards with tops of chance."""
+    cards = rising(cards)
+    if not cards:
+        return ()
+    at = rng.randrange(len(cards))
+    return (any_tree(rng, cards[:at]), cards[at], any_tree(rng, cards[at + 1:]))
+
+
+def all_trees(cards):
+    """All trees of cards that are listed by rising keys."""
+    if not cards:
+        return [()]
+    return [(left, card, right)
+            for at, card in enumerate(cards)
+            for left in all_trees(cards[:at])
+            for right in all_trees(cards[at + 1:])]
+
+
+def chain_right(cards):
+    tree = ()
+    for card in reversed(rising(cards)):
+        tree = ((), card, tree)
+    return tree
+
+
+def chain_left(cards):
+    tree = ()
+    for card in rising(cards):
+        tree = (tree, card, ())
+    return tree
+
+
+def zigzag(cards):
+    """A chain whose sides change with each card."""
+    cards = rising(cards)
+    if not cards:
+        return ()
+    return ((), cards[0], zigzag_left(cards[1:]))
+
+
+def zigzag_left(cards):
+    if not cards:
+        return ()
+    return (zigzag(cards[:-1]), cards[-1], ())
+
+
+def plain(many):
+    return [(key, many - key, key) for key in range(many)]
+
+
+def nodes(tree):
+    """(left, card, right, upper card or None) of each part, from the left."""
+    def walk(part, upper):
+        if part == ():
+            return []
+        left, card, right = part
+        return walk(left, card) + [(left, card, right, upper)] + walk(right, card)
+    return walk(tree, None)
+
+
+def flat(tree):
+    return [node[1] for node in nodes(tree)]
+
+
+def crest_by_leafing(cards):
+    """The crest, by leafing the cards from the one that outranks all others down."""
+    tree = ()
+    for card in sorted(cards, key=lambda card: (-card[1], card[0])):
+        tree = leafed_plainly(tree, card)
+    return tree
+
+
+def leafed_plainly(tree, card):
+    if tree == ():
+        return ((), card, ())
+    left, top, right = tree
+    if card[0] < top[0]:
+        return (leafed_plainly(left, card), top, right)
+    return (left, top, leafed_plainly(right, card))
+
+
+def seems_crest(tree):
+    cards = flat(tree)
+    keys = [card[0] for card in cards]
+    return keys == sorted(set(keys)) and not any(
+        upper and better(card, upper) for _, card, _, upper in nodes(tree))
+
+
+def with_worths(tree, worth):
+    """The same tree with all worths beyond a card's bounds."""
+    if tree == ():
+        return ()
+    left, card, right = tree
+    return (with_worths(left, worth), (card[0], card[1], worth + card[0]), with_worths(right, worth))
+
+
+def sample_trees(seed=1, times=60):
+    """Trees of many sizes: of chance, crests, and chains to either side."""
+    rng = dice(seed)
+    made = [()]
+    for _ in range(times):
+        cards = some_cards(rng, rng.choice([1, 2, 3, 5, 8, 13, 30]), ranks=rng.choice([1, 4, 100]))
+        made += [any_tree(rng, cards), crest_by_leafing(cards)]
+    for many in (1, 2, 7, 64):
+        made += [chain_left(plain(many)), chain_right(plain(many)), zigzag(plain(many))]
+    made += [any_tree(rng, plain(64)), crest_by_leafing(some_cards(rng, 64))]
+    return made
+
+
+def sample_crests(seed=2, times=60):
+    rng = dice(seed)
+    made = [()]
+    for _ in range(times):
+        many = rng.choice([1, 2, 3, 5, 8, 13, 30])
+        made.append(crest_by_leafing(some_cards(rng, many, ranks=rng.choice([1, 3, 100]))))
+    for many in (63, 64):
+        made += [crest_by_leafing(some_cards(rng, many)), crest_by_leafing(plain(many))]
+        made.append(crest_by_leafing([(key, key, 0) for key in range(many)]))
+    return made
+
+
+def keys_about(tree):
+    """The keys of a tree, those beside them, and some far off."""
+    keys = [card[0] for card in flat(tree)]
+    near = {key + more for key in keys for more in (-1, 0, 1)}
+    return sorted(near | {-1, 0, -(10 ** 59), GREATEST, GREATEST + 1, 10 ** 59})
