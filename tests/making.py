@@ -150,3 +150,51 @@ def keys_about(tree):
     keys = [card[0] for card in flat(tree)]
     near = {key + more for key in keys for more in (-1, 0, 1)}
     return sorted(near | {-1, 0, -(10 ** 59), GREATEST, GREATEST + 1, 10 ** 59})
+
+
+def all_turns(tree):
+    """(key, tree) of each turn that can be done."""
+    if tree == ():
+        return []
+    left, card, right = tree
+    made = []
+    if left != ():
+        made.append((left[1][0], (left[0], left[1], (left[2], card, right))))
+    if right != ():
+        made.append((right[1][0], ((left, card, right[0]), right[1], right[2])))
+    made += [(key, (other, card, right)) for key, other in all_turns(left)]
+    made += [(key, (left, card, other)) for key, other in all_turns(right)]
+    return made
+
+
+def fewest_turns(tree):
+    """For each tree of the same cards the fewest turns that lead there, by going all ways."""
+    far = {tree: 0}
+    row = [tree]
+    for one in row:
+        for _, other in all_turns(one):
+            if other not in far:
+                far[other] = far[one] + 1
+                row.append(other)
+    return far
+
+
+def right_edge(tree):
+    return [tree[1]] + right_edge(tree[2]) if tree != () else []
+
+
+def left_edge(tree):
+    return [tree[1]] + left_edge(tree[0]) if tree != () else []
+
+
+def lengths(tree):
+    """How long the seam of each key is, and the edges under "left" and "right"."""
+    found = {card[0]: len(right_edge(left)) + len(left_edge(right)) for left, card, right, _ in nodes(tree)}
+    found["left"] = len(left_edge(tree))
+    found["right"] = len(right_edge(tree))
+    return found
+
+
+def frozen(thing):
+    """The same thing in lists, so that a change of it would show."""
+    return [type(thing).__name__] + [frozen(part) for part in thing] if isinstance(thing, (list, tuple)) else thing

@@ -10,6 +10,11 @@ FUNCTIONS = {
     "trees": ("is_tree(thing)", "is_crest(thing)", "fault(branching)", "cards_in(branching)"),
     "crests": ("crest_of(pack)", "road(tree, key)", "holds(tree, key)", "card_at(tree, key)", "part_at(tree, key)",
                "top_within(tree, low, high)"),
+    "turns": ("turned(tree, key)", "turned_by(tree, row)", "leafed(tree, card)"),
+    "seams": ("seam(tree, key)", "edges(tree)", "put_in(crest, card)", "take_out(crest, key)"),
+    "chains": ("to_chain(tree)", "turns_between(one, other)", "turns_bound(one, other)", "leads(one, row, other)"),
+    "splits": ("split(crest, key)", "joined(one, other)", "cut(crest, low, high)"),
+    "links": ("links(tree)", "split_road(crest, key)", "split_links(crest, key)"),
 }
 
 
