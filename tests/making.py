@@ -167,6 +167,16 @@ def all_turns(tree):
     return made
 
 
+def turns_of_chance(rng, many, length):
+    """A tree, a row of turns that can be done, and the tree to which it leads."""
+    first = tree = any_tree(rng, plain(many))
+    row = []
+    for _ in range(length):
+        key, tree = rng.choice(all_turns(tree))
+        row.append(key)
+    return first, row, tree
+
+
 def fewest_turns(tree):
     """For each tree of the same cards the fewest turns that lead there, by going all ways."""
     far = {tree: 0}

@@ -4,7 +4,8 @@ from crestkeys.chains import leads, to_chain, turns_between, turns_bound
 from crestkeys.errors import OtherCards
 from crestkeys.turns import turned_by
 from tests.making import (GREATEST, all_trees, all_turns, any_tree, chain_left, chain_right, dice, fewest_turns, flat,
-                          frozen, lengths, nodes, plain, right_edge, sample_trees, some_cards, with_worths, zigzag)
+                          frozen, lengths, nodes, plain, right_edge, sample_trees, some_cards, turns_of_chance, with_worths,
+                          zigzag)
 
 
 def off_edge(tree):
@@ -188,11 +189,7 @@ class Leads(unittest.TestCase):
         rng = dice(55)
         for many in (2, 3, 10, 64):
             for length in (1, 5, 800):
-                first = tree = any_tree(rng, plain(many))
-                row = []
-                for _ in range(length):
-                    key, tree = rng.choice(all_turns(tree))
-                    row.append(key)
+                first, row, tree = turns_of_chance(rng, many, length)
                 kept = list(row)
                 self.assertIs(leads(first, row, tree), True)
                 self.assertIs(leads(first, tuple(row), tree), True)

@@ -3,9 +3,9 @@ import unittest
 from crestkeys.errors import NoKey, NoTurn, TooMany, Twice
 from crestkeys.trees import is_tree
 from crestkeys.turns import leafed, turned, turned_by
-from tests.making import (GREATEST, all_turns, any_tree, chain_left, chain_right, crest_by_leafing, dice, flat,
-                          frozen, keys_about, leafed_plainly, nodes, plain, sample_trees, some_cards, with_worths,
-                          zigzag)
+from tests.making import (GREATEST, all_turns, chain_left, chain_right, crest_by_leafing, dice, flat, frozen,
+                          keys_about, leafed_plainly, nodes, plain, sample_trees, some_cards, turns_of_chance,
+                          with_worths, zigzag)
 
 
 def leaf(key):
@@ -85,11 +85,7 @@ class TurnedBy(unittest.TestCase):
         rng = dice(32)
         for many in (2, 3, 9, 64):
             for length in (1, 2, 50, 800):
-                first = tree = any_tree(rng, plain(many))
-                row = []
-                for _ in range(length):
-                    key, tree = rng.choice(all_turns(tree))
-                    row.append(key)
+                first, row, tree = turns_of_chance(rng, many, length)
                 kept = list(row)
                 self.assertEqual(turned_by(first, row), tree)
                 self.assertEqual(turned_by(first, tuple(row)), tree)
