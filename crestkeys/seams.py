@@ -40,14 +40,18 @@ def rises(tree, card):
     return len(met) > 1 and outranks(card, card_at(tree, met[-2]))
 
 
-def put_in(crest, card):
-    """The crest with the card, and the row of turns that put it in; Twice, then TooMany."""
-    tree = leafed(crest, card)
+def gone_up(tree, card):
+    """The tree in which its card has gone up as long as it rises, and the row of turns that did it."""
     row = []
     while rises(tree, card):
         tree = turned(tree, card[0])
         row.append(card[0])
     return (tree, row)
+
+
+def put_in(crest, card):
+    """The crest with the card, and the row of turns that put it in; Twice, then TooMany."""
+    return gone_up(leafed(crest, card), card)
 
 
 def next_beneath(part):

@@ -12,6 +12,14 @@ def cards_in(branching):
     return cards_in(left) + [card] + cards_in(right)
 
 
+def parts_in(branching):
+    """A list of the parts, those of the left part first, then itself, then those of the right part."""
+    if branching == ():
+        return []
+    left, card, right = branching
+    return parts_in(left) + [branching] + parts_in(right)
+
+
 def room_behind(thing, room):
     """How much of the room is left behind the cards of thing; -1 where they do not fit or it is no branching."""
     if not isinstance(thing, tuple):

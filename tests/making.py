@@ -145,6 +145,22 @@ def sample_crests(seed=2, times=60):
     return made
 
 
+def by_key(tree):
+    return {card[0]: card for card in flat(tree)}
+
+
+def pairs_of_crests(seed, times=80):
+    """Two crests, of none to 40 cards each, with few or many keys in common."""
+    rng = dice(seed)
+    made = [((), ())]
+    for _ in range(times):
+        most = rng.choice([12, 30, 60])
+        one, other = [crest_by_leafing(some_cards(rng, rng.randint(0, min(most, 30)), ranks=rng.choice([1, 4, 50]),
+                                                  most_key=most)) for _ in range(2)]
+        made += [(one, other), (one, ()), ((), one), (one, one)]
+    return made
+
+
 def keys_about(tree):
     """The keys of a tree, those beside them, and some far off."""
     keys = [card[0] for card in flat(tree)]

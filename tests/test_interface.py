@@ -15,6 +15,13 @@ FUNCTIONS = {
     "chains": ("to_chain(tree)", "turns_between(one, other)", "turns_bound(one, other)", "leads(one, row, other)"),
     "splits": ("split(crest, key)", "joined(one, other)", "cut(crest, low, high)"),
     "links": ("links(tree)", "split_road(crest, key)", "split_links(crest, key)"),
+    "places": ("size(tree)", "place_of(tree, key)", "sum_within(tree, low, high)", "at_place(tree, place)"),
+    "sums": ("sums_of(tree)", "sums_fault(tree, sums)"),
+    "reaching": ("reached(tree, amount)", "reach_road(tree, amount)", "richest(tree)", "tiles(tree, low, high)"),
+    "changes": ("raised(tree, low, high, amount)", "ranked(crest, key, rank)"),
+    "sets": ("together(one, other)", "shared(one, other)", "without(one, other)", "differ(one, other)"),
+    "mixed": ("letters(one, other)", "runs(one, other)", "pure_parts(one, other)", "mixed_in(one, other)",
+              "mixed_share(row, k)", "mixed_mean(row)"),
 }
 
 
