@@ -1,4 +1,28 @@
-"""Fractions, as tuples (top, bottom) in lowest terms."""
+"""Powers, ways to choose, and fractions, as tuples (top, bottom) in lowest terms."""
+
+
+def power(base, times):
+    """The product of so many times the base; 1 of none."""
+    found = 1
+    for step in range(times):
+        found *= base
+    return found
+
+
+def factorial(n):
+    """The product of 1 to n."""
+    found = 1
+    for by in range(2, n + 1):
+        found *= by
+    return found
+
+
+def choose(n, k):
+    """How many ways there are to choose k of n things."""
+    found = 1
+    for step in range(k):
+        found = found * (n - step) // (step + 1)
+    return found
 
 
 def common(one, other):

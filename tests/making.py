@@ -1,5 +1,6 @@
 """Cards and trees for the tests, made in ways of their own: nothing here uses the program."""
 
+import itertools
 import random
 
 GREATEST = 10 ** 18
@@ -224,3 +225,48 @@ def lengths(tree):
 def frozen(thing):
     """The same thing in lists, so that a change of it would show."""
     return [type(thing).__name__] + [frozen(part) for part in thing] if isinstance(thing, (list, tuple)) else thing
+
+
+def within_one_another(many, shut):
+    """So many lists, or tuples, each in the next one."""
+    thing = shut()
+    for _ in range(many - 1):
+        thing = shut([thing])
+    return thing
+
+
+def odd_things():
+    """Things of many kinds that are next to nothing's form."""
+    deep = [within_one_another(150, shut) for shut in (tuple, list)]
+    return [None, True, False, 0, 1, -1, 10 ** 59, "", "row", "0", [], [0], [()], ((),), (None,), (True,), (False,),
+            ("",), ("0",), ([],), ((0,),), ("row",), ("part",), (0, [1]), ([0], 1), *deep]
+
+
+def tree_by(order):
+    """The crest of the order's pack; its keys are the places."""
+    return crest_by_leafing([(place, len(order) - at, 0) for at, place in enumerate(order)])
+
+
+def tops_first(tree):
+    """The keys, of each part the top first, then the left part, then the right part."""
+    return (tree[1][0],) + tops_first(tree[0]) + tops_first(tree[2]) if tree else ()
+
+
+def all_orders(many):
+    return list(itertools.permutations(range(many)))
+
+
+def orders_by_shape(many):
+    """For each shape, rising, the rising list of all its orders."""
+    found = {}
+    for order in all_orders(many):
+        found.setdefault(tops_first(tree_by(order)), []).append(order)
+    return {shape: found[shape] for shape in sorted(found)}
+
+
+def some_order(rng, many):
+    return tuple(rng.sample(range(many), many))
+
+
+def some_shape(rng, many):
+    return tops_first(tree_by(some_order(rng, many)))

@@ -2,14 +2,7 @@ import itertools
 import unittest
 
 from crestkeys.cards import is_card, outranks
-from tests.making import GREATEST, dice
-
-
-def within_one_another(many, shut):
-    thing = shut()
-    for _ in range(many - 1):
-        thing = shut([thing])
-    return thing
+from tests.making import GREATEST, dice, within_one_another
 
 
 class IsCard(unittest.TestCase):

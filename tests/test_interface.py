@@ -22,6 +22,17 @@ FUNCTIONS = {
     "sets": ("together(one, other)", "shared(one, other)", "without(one, other)", "differ(one, other)"),
     "mixed": ("letters(one, other)", "runs(one, other)", "pure_parts(one, other)", "mixed_in(one, other)",
               "mixed_share(row, k)", "mixed_mean(row)"),
+    "shapes": ("is_order(thing)", "is_shape(thing)", "shape_of(order)", "shape_in(tree)", "parts_of(shape)",
+               "height_of(shape)", "mirrored(shape)"),
+    "shapecounts": ("shape_count(n)", "shapes_high(n, h)", "shape_at(n, number)", "shape_number(shape)",
+                    "orders_many(shape)"),
+    "orders": ("order_at(shape, number)", "order_number(order)", "come_at(shape, place)",
+               "ahead_many(shape, one, other)"),
+    "exchanges": ("exchanged(order, k)", "exchanged_by(order, row)", "unlike_pairs(one, other)",
+                  "exchanges(one, other)", "led(one, other)", "led_right(one, other, thing)"),
+    "mixers": ("is_mixer(thing)", "rank_by(mixer, key)", "deals(mixer, pairs)", "mixers_many(prime, many, pairs)",
+               "mixer_at(prime, many, pairs, number)", "mixer_number(mixer, pairs)",
+               "falling_many(prime, many, keys)", "topping_many(prime, many, keys, key)"),
 }
 
 

@@ -2,10 +2,23 @@ import math
 import unittest
 from fractions import Fraction
 
-from crestkeys.reckoning import added, common, lowest
+from crestkeys.reckoning import added, choose, common, factorial, lowest, power
 
 
 class Reckoning(unittest.TestCase):
+    def test_power_and_factorial(self):
+        for base in (-3, 0, 1, 2, 7, 9973):
+            for times in range(9):
+                self.assertEqual(power(base, times), base ** times)
+        for n in range(45):
+            self.assertEqual(factorial(n), math.factorial(n))
+
+    def test_choose(self):
+        for n in range(50):
+            for k in range(12):
+                self.assertEqual(choose(n, k), math.comb(n, k))
+        self.assertEqual(choose(40, 20), math.comb(40, 20))
+
     def test_common(self):
         for one in range(40):
             for other in range(40):
