@@ -1,7 +1,7 @@
 """Two crests put together, letter by letter: runs, mixed cards, pure parts, and shares of all orders."""
 
 from crestkeys.crests import holds
-from crestkeys.reckoning import added
+from crestkeys.reckoning import added, total_of
 from crestkeys.sets import check_keys, keys_of_both, together
 from crestkeys.trees import cards_in, parts_in
 
@@ -85,7 +85,4 @@ def mixed_share(row, k):
 
 def mixed_mean(row):
     """The mean number of mixed cards of a row of letters, over all orders."""
-    mean = (0, 1)
-    for k in range(len(row)):
-        mean = added(mean, mixed_share(row, k))
-    return mean
+    return total_of([mixed_share(row, k) for k in range(len(row))])

@@ -41,3 +41,11 @@ def lowest(top, bottom):
 def added(one, other):
     """The sum of two fractions."""
     return lowest(one[0] * other[1] + other[0] * one[1], one[1] * other[1])
+
+
+def total_of(fractions):
+    """The sum of a list of fractions; nought of none."""
+    found = (0, 1)
+    for fraction in fractions:
+        found = added(found, fraction)
+    return found

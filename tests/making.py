@@ -270,3 +270,69 @@ def some_order(rng, many):
 
 def some_shape(rng, many):
     return tops_first(tree_by(some_order(rng, many)))
+
+
+def shape_of_keys(stands, order):
+    """The shape of the crest of keys, a dict from each to its item, by an order of all items."""
+    cards = [(place, len(order) - order.index(stands[key]), 0) for place, key in enumerate(sorted(stands))]
+    return tops_first(crest_by_leafing(cards))
+
+
+def item_by(way, puts, key):
+    """The item of a put of the key behind other puts, a list of their keys."""
+    if way == "fresh":
+        return len(puts)
+    first = list(dict.fromkeys(puts + [key]))
+    return first.index(key)
+
+
+def plain_states(history, way):
+    """For each deed a dict from each key that stands behind it to its item."""
+    states, stands, puts = [], {}, []
+    for deed in history:
+        if deed[0] == "put":
+            stands = {**stands, deed[1]: item_by(way, puts, deed[1])}
+            puts.append(deed[1])
+        elif deed[0] == "take":
+            stands = {key: item for key, item in stands.items() if key != deed[1]}
+        states.append(stands)
+    return states
+
+
+def some_history(rng, length, keys, looks=3):
+    """A history of chance that can be done; of ten deeds about so many are looks."""
+    history, stands = [], set()
+    for _ in range(length):
+        if rng.randrange(10) < looks:
+            history.append(("look",))
+            continue
+        key = rng.choice(keys)
+        history.append(("take" if key in stands else "put", key))
+        stands ^= {key}
+    return history
+
+
+def plain_fraction(number):
+    """A number of the module fractions as the program tells it."""
+    return (number.numerator, number.denominator)
+
+
+def otherwise(thing):
+    """Things that differ from a thing, made of lists, tuples, texts and whole numbers, in one part of it."""
+    if isinstance(thing, (list, tuple)):
+        shut, turned_about = type(thing), tuple if isinstance(thing, list) else list
+        rows = list(thing)
+        yield turned_about(rows)
+        yield shut(rows + [rows[-1] if rows else 0])
+        yield from (shut(rows[:at] + rows[at + 1:]) for at in range(len(rows)))
+        yield from (shut(rows[:at] + [rows[at]] + rows[at:]) for at in range(len(rows)))
+        yield from (shut(rows[:at] + [rows[at + 1], rows[at]] + rows[at + 2:])
+                    for at in range(len(rows) - 1) if frozen(rows[at]) != frozen(rows[at + 1]))
+        for at, part in enumerate(rows):
+            yield from (shut(rows[:at] + [other] + rows[at + 1:]) for other in otherwise(part))
+    elif isinstance(thing, str):
+        yield from ("", thing + "s", thing.upper(), thing[:-1], None, (thing,), [thing])
+    else:
+        yield from (thing + 1, thing - 1, -thing - 1, thing + 10 ** 30, str(thing), None, (thing,), [thing])
+        if thing in (0, 1):
+            yield bool(thing)

@@ -33,6 +33,16 @@ FUNCTIONS = {
     "mixers": ("is_mixer(thing)", "rank_by(mixer, key)", "deals(mixer, pairs)", "mixers_many(prime, many, pairs)",
                "mixer_at(prime, many, pairs, number)", "mixer_number(mixer, pairs)",
                "falling_many(prime, many, keys)", "topping_many(prime, many, keys, key)"),
+    "facts": ("order_by(n, facts)", "shows_order(n, facts, thing)", "orders_many(n, facts)"),
+    "histories": ("looks_at(history, way)", "seen_by(history, way, order)", "rows_seen(history, way)",
+                  "held(one, other, way)", "shape_share(shape)"),
+    "watches": ("ends_many(watch)", "end_way(watch, way, end)", "end_share(watch, way, end)",
+                "end_tells(watch, way, end)", "last_seen(watch, way)", "parted(one, other, way)",
+                "walked(watch, way, order)"),
+    "shares": ("above_share(n, i, some)", "part_share(n, low, high)", "part_sizes(n, i)", "seam_share(n, i, j)",
+               "mean_depth(n, i)", "mean_seam(n, i)", "mean_turns(history)"),
+    "depths": ("depth_counts(a, b)", "depth_table(left, right)", "table_holds(left, right, thing)", "gap_sums(n)",
+               "crowd(n)"),
 }
 
 

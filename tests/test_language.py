@@ -23,6 +23,8 @@ BARRED_NAMES = set(
 DOUBLE = {"__init__"}
 BARRED_NODES = (ast.Global, ast.AsyncFunctionDef, ast.AsyncFor, ast.AsyncWith, ast.Await, ast.Import, ast.Div)
 FUNCTIONS = (ast.FunctionDef, ast.Lambda)
+PASSING = {"zip", "enumerate", "reversed", "range", "items", "keys", "values"}
+GOING_THROUGH = {"list", "tuple", "dict", "sorted", "sum", "any", "all", "enumerate", "zip", "bytes", "min", "max"}
 
 
 def read(path):
@@ -131,6 +133,18 @@ class Language(unittest.TestCase):
             for node in ast.walk(tree):
                 if isinstance(node, FUNCTIONS):
                     self.assertFalse(set(bound_in(node)) & taken, f"{path.name}: {set(bound_in(node)) & taken}")
+
+    def test_what_passes_is_gone_through_at_once(self):
+        for path in FILES:
+            tree = read(path)[1]
+            at_once = [node.iter for node in ast.walk(tree) if isinstance(node, (ast.For, ast.comprehension))]
+            for node in ast.walk(tree):
+                if isinstance(node, ast.Call) and isinstance(node.func, ast.Name) and node.func.id in GOING_THROUGH:
+                    at_once += node.args
+            for node in ast.walk(tree):
+                if isinstance(node, ast.Call):
+                    name = getattr(node.func, "id", getattr(node.func, "attr", None))
+                    self.assertFalse(name in PASSING and node not in at_once, f"{path.name}: {node.lineno}")
 
     def test_statements_and_expressions(self):
         for path in FILES:

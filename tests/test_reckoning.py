@@ -2,7 +2,7 @@ import math
 import unittest
 from fractions import Fraction
 
-from crestkeys.reckoning import added, choose, common, factorial, lowest, power
+from crestkeys.reckoning import added, choose, common, factorial, lowest, power, total_of
 
 
 class Reckoning(unittest.TestCase):
@@ -33,6 +33,13 @@ class Reckoning(unittest.TestCase):
                     whole = one + other
                     self.assertEqual(added((top, bottom), (other.numerator, other.denominator)),
                                      (whole.numerator, whole.denominator))
+
+    def test_total_of(self):
+        self.assertEqual(total_of([]), (0, 1))
+        self.assertEqual(total_of([(1, 2), (1, 3), (-1, 3), (-1, 2)]), (0, 1))
+        for many in range(1, 20):
+            whole = sum(Fraction(1, k) for k in range(1, many + 1))
+            self.assertEqual(total_of([(1, k) for k in range(1, many + 1)]), (whole.numerator, whole.denominator))
 
 
 if __name__ == "__main__":
