@@ -336,3 +336,45 @@ def otherwise(thing):
         yield from (thing + 1, thing - 1, -thing - 1, thing + 10 ** 30, str(thing), None, (thing,), [thing])
         if thing in (0, 1):
             yield bool(thing)
+
+
+def height_by(tree):
+    """How many cards the longest road of the tree has."""
+    return 1 + max(height_by(tree[0]), height_by(tree[2])) if tree else 0
+
+
+def done_plainly(cards, deed):
+    """What a store's cards, a dict by their keys, become by a deed that can be done."""
+    word, *told = deed
+    if word == "put":
+        return {**cards, told[0][0]: told[0]}
+    if word == "take":
+        return {key: card for key, card in cards.items() if key != told[0]}
+    if word == "move":
+        return {**cards, told[0]: (told[0], told[1], cards[told[0]][2])}
+    low, high, more = told
+    return {key: (key, card[1], card[2] + (more if low <= key <= high else 0)) for key, card in cards.items()}
+
+
+def some_deed(rng, keys, most_key=9, ranks=6):
+    """A deed of chance that can be done where some keys stand, at most 39."""
+    word = rng.choice(["put", "put", "put", "take", "move", "raise"])
+    if word == "put" or not keys:
+        return ("put", (rng.randint(0, most_key), rng.randint(0, ranks), rng.randint(-3, 3)))
+    if word == "raise":
+        return ("raise", rng.randint(-2, most_key), rng.randint(-2, most_key), rng.choice([-2, 0, 1, 10 ** 58]))
+    key = rng.choice(sorted(keys))
+    return ("take", key) if word == "take" else ("move", key, rng.randint(0, ranks))
+
+
+def grown(rng, store, many, most_key=9):
+    """Grows a store by so many deeds, from versions of chance; tells each version's (forebear, deed, cards)."""
+    rows = [(None, None, {})]
+    for _ in range(many):
+        if rng.random() < .4:
+            store.go(rng.randrange(len(rows)))
+        forebear = store.now()
+        deed = some_deed(rng, rows[forebear][2], most_key)
+        store.do(deed)
+        rows.append((forebear, deed, done_plainly(rows[forebear][2], deed)))
+    return rows

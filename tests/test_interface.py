@@ -43,6 +43,19 @@ FUNCTIONS = {
                "mean_depth(n, i)", "mean_seam(n, i)", "mean_turns(history)"),
     "depths": ("depth_counts(a, b)", "depth_table(left, right)", "table_holds(left, right, thing)", "gap_sums(n)",
                "crowd(n)"),
+    "heights": ("heights(n, h)", "heights_hold(n, h, thing)"),
+    "bounds": ("least_height(n, p)", "height_by_crowd(n, p)", "height_by_factor(n, p, x)", "paper_for(n, h, p)",
+               "shows_low(n, h, p, thing)"),
+    "versions": ("both_come_of(store, one, other)", "steps(store, one, other)", "differing(store, one, other)",
+                 "merged(store, one, other)", "new_in(store, one, other)"),
+    "texts": ("cards_text(cards)", "tree_text(tree)", "row_text(row)", "cards_read(thing)", "tree_read(thing)",
+              "order_read(thing)", "shape_read(thing)"),
+}
+METHODS = {
+    ("store", "Store"): ("do(self, deed)", "go(self, version)", "back(self)", "now(self)", "many(self)",
+                         "cards(self, version)", "tree(self, version)", "forebear(self, version)",
+                         "deed(self, version)"),
+    ("desk", "Desk"): ("say(self, row)",),
 }
 
 
@@ -55,6 +68,15 @@ class Interface(unittest.TestCase):
                 function = getattr(loaded, name)
                 self.assertEqual(name + str(inspect.signature(function)), row)
                 self.assertEqual(function.__module__, "crestkeys." + module)
+
+    def test_classes_have_their_methods_themselves(self):
+        for (module, name), rows in METHODS.items():
+            kind = getattr(importlib.import_module("crestkeys." + module), name)
+            self.assertEqual((kind.__module__, kind.__bases__), ("crestkeys." + module, (object,)))
+            self.assertEqual(str(inspect.signature(kind)), "()")
+            for row in rows:
+                method = row.partition("(")[0]
+                self.assertEqual(method + str(inspect.signature(vars(kind)[method])), row)
 
 
 if __name__ == "__main__":

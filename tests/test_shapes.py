@@ -4,8 +4,8 @@ from crestkeys.crests import crest_of
 from crestkeys.errors import NoShape
 from crestkeys.packs import order_of, pack_of
 from crestkeys.shapes import height_of, is_order, is_shape, mirrored, parts_of, shape_in, shape_of
-from tests.making import (all_orders, all_trees, chain_left, chain_right, crest_by_leafing, dice, flat, frozen, nodes,
-                          odd_things, orders_by_shape, plain, sample_trees, some_order, some_shape, tops_first,
+from tests.making import (all_orders, all_trees, chain_left, chain_right, crest_by_leafing, dice, flat, frozen, height_by,
+                          nodes, odd_things, orders_by_shape, plain, sample_trees, some_order, some_shape, tops_first,
                           tree_by, with_worths)
 
 
@@ -127,10 +127,6 @@ def plain_parts(shape):
     return sorted(made)
 
 
-def plain_height(tree):
-    return 1 + max(plain_height(tree[0]), plain_height(tree[2])) if tree else 0
-
-
 def some_shapes():
     rng = dice(83)
     made = [shape for many in range(7) for shape in orders_by_shape(many)]
@@ -152,7 +148,7 @@ class Parts(unittest.TestCase):
         for shape in some_shapes():
             self.assertEqual(parts_of(shape), plain_parts(shape))
             self.assertIs(type(parts_of(shape)), list)
-            self.assertEqual(height_of(shape), plain_height(tree_by(shape)))
+            self.assertEqual(height_of(shape), height_by(tree_by(shape)))
             turned_about = tops_first(tree_by([len(shape) - 1 - place for place in shape]))
             self.assertEqual(mirrored(shape), turned_about)
             self.assertIs(is_shape(mirrored(shape)), True)
